@@ -1,0 +1,1 @@
+"""Hushpapers: exact counts for papers about covered values."""
