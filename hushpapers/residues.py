@@ -20,11 +20,14 @@ def is_residue(q, value):
     return isinstance(value, int) and 0 <= value < q
 
 
+def is_tuple_of(length, value):
+    """Tell whether the value, of any kind, is a tuple of `length` items."""
+    return isinstance(value, tuple) and len(value) == length
+
+
 def is_residue_row(q, length, value):
     """Tell whether the value, of any kind, is a tuple of `length` residues."""
-    if not isinstance(value, tuple) or len(value) != length:
-        return False
-    return all([is_residue(q, item) for item in value])
+    return is_tuple_of(length, value) and all([is_residue(q, item) for item in value])
 
 
 def raised(number, exponent):
@@ -33,6 +36,16 @@ def raised(number, exponent):
     for _ in range(exponent):
         result = result * number
     return result
+
+
+def first_powers(number, many, q):
+    """Return the powers 0 to many - 1 of the number, modulo q."""
+    powers = []
+    power = 1
+    for _ in range(many):
+        powers.append(power)
+        power = power * number % q
+    return tuple(powers)
 
 
 def inverse(a, q):

@@ -2,7 +2,7 @@
 
 from hushpapers.errors import BadStatement
 from hushpapers.linear import rank, solve
-from hushpapers.residues import is_residue_row, raised
+from hushpapers.residues import is_residue_row, is_tuple_of, raised
 
 LARGEST_LEAF = 64
 LARGEST_NODE = 64
@@ -15,20 +15,18 @@ def is_leaf(statement):
     return statement[0] == "rows"
 
 
-def _is_member_row(group, length, value):
+def is_member_row(group, length, value):
     """Tell whether the value, of any form, is a tuple of `length` members."""
-    if not isinstance(value, tuple) or len(value) != length:
-        return False
-    return all([group.has(item) for item in value])
+    return is_tuple_of(length, value) and all([group.has(item) for item in value])
 
 
 def leaf(group, width, matrix, targets):
     """Return the leaf with these rows and targets."""
     if not isinstance(matrix, tuple) or len(matrix) > LARGEST_LEAF:
         raise BadStatement()
-    if not 0 <= width <= LARGEST_LEAF or not _is_member_row(group, len(matrix), targets):
+    if not 0 <= width <= LARGEST_LEAF or not is_member_row(group, len(matrix), targets):
         raise BadStatement()
-    if not all([_is_member_row(group, width, row) for row in matrix]):
+    if not all([is_member_row(group, width, row) for row in matrix]):
         raise BadStatement()
     return ("rows", width, matrix, targets)
 
@@ -116,7 +114,7 @@ def fits(group, statement, witness):
     if is_leaf(statement):
         return _is_solution(group, statement, witness)
     _, need, kids = statement
-    if not isinstance(witness, tuple) or len(witness) != len(kids):
+    if not is_tuple_of(len(kids), witness):
         return False
     given = [(kid, item) for kid, item in zip(kids, witness) if item is not None]
     return len(given) >= need and all([fits(group, kid, item) for kid, item in given])
@@ -151,17 +149,20 @@ def count_witnesses(group, statement):
     return sum(counts[need:])
 
 
+def active_places(statement, witness):
+    """Return the places, from 0, of the active kids of a node."""
+    given = [at for at, item in enumerate(witness) if item is not None]
+    return given[:statement[1]]
+
+
 def active_part(statement, witness):
     """Return the witness without the items of all passive kids."""
     if is_leaf(statement):
         return witness
-    _, need, kids = statement
+    kids = statement[2]
     part = [None] * len(kids)
-    missing = need
-    for at, item in enumerate(witness):
-        if item is not None and missing > 0:
-            part[at] = active_part(kids[at], item)
-            missing = missing - 1
+    for at in active_places(statement, witness):
+        part[at] = active_part(kids[at], witness[at])
     return tuple(part)
 
 

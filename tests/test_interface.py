@@ -32,6 +32,55 @@ FUNCTIONS = {
         "holds(group, statement)", "fits(group, statement, witness)", "find_witness(group, statement)",
         "count_witnesses(group, statement)", "active_part(statement, witness)", "ways(statement)",
     ),
+    "runs": (
+        "accepts(group, statement, run)", "mimic(group, statement, challenge, tape)",
+        "begin(group, statement, witness, tape)", "respond(group, statement, witness, tape, challenge)",
+        "run_of(group, statement, witness, tape, challenge)", "mimic_tape(group, statement, run)",
+        "matching_tape(group, statement, witness, run)", "extract(group, statement, first, second)",
+        "answerable(group, statement, start)",
+    ),
+    "counting": (
+        "freedom(group, statement)", "count_answers(group, statement, start, challenge)",
+        "count_starts(group, statement)", "mimic_runs(group, statement, challenge)",
+        "honest_runs(group, statement, witness, judge)", "kept_runs(group, statement, judge)",
+    ),
+    "strategies": (
+        "success(group, statement, start, table)", "best_share(group, statement)",
+        "best_strategy(group, statement)", "round_share(q, rounds, need)",
+        "chain_success(group, statements, chain, need)", "chain_share(group, statements, need)",
+        "best_chain(group, statements)", "side_success(group, statements, starts, table, need)",
+    ),
+    "batches": (
+        "batch(group, leaves, weight)", "holding_weights(group, leaves)", "worst_leaves(group, many)",
+        "batch_share(group, leaves)", "split_batch(group, leaves, pairs)",
+    ),
+    "claims": (
+        "known_claim(key, cover)", "value_claim(key, cover, value)", "same_claim(key, first, second)",
+        "product_claim(key, first, second, third)", "form_claim(key, covers, factors, total)",
+        "powers_claim(key, covers)", "exclusion_claim(key, cover, values)", "choice_claim(key, cover, values)",
+        "known_witness(key, opening)", "value_witness(key, opening, value)", "same_witness(key, first, second)",
+        "product_witness(key, first, second, third)", "form_witness(key, openings, factors, total)",
+        "powers_witness(key, openings)", "exclusion_witness(key, opening, values)",
+        "choice_witness(key, opening, values)", "known_openings(key, witness)",
+        "value_openings(key, witness, value)", "same_openings(key, witness)", "product_openings(key, witness)",
+        "form_openings(key, witness)", "powers_openings(key, witness)", "exclusion_openings(key, witness)",
+        "choice_openings(key, witness, values)", "exclusion_relation(key, values, witness)",
+    ),
+    "ranges": (
+        "range_weights(top)", "range_digits(top, value)", "range_claim(key, cover, top, digit_covers)",
+        "range_witness(key, opening, top, blinds)", "range_openings(key, witness, top)",
+        "offer_range(key, opening, top, blinds, tape, challenge)",
+        "retell_range(key, cover, top, digit_covers, run, value)",
+        "order_claim(key, first, second, top, first_digits, second_digits, gap_digits)",
+        "order_witness(key, first, second, top, first_blinds, second_blinds, gap_blinds)",
+        "order_openings(key, witness, top)",
+    ),
+    "polynomials": (
+        "cover_coefficients(key, coefficients, blinds)", "cover_at(group, covers, point)",
+        "point_claim(key, covers, point, value)", "meet_claim(key, first, second, point)",
+        "degree_claim(key, covers, degree)", "deal(q, coefficients, blinds, many)",
+        "share_fits(key, covers, share)", "join_shares(q, shares)", "retell_deal(key, covers, shares, secret)",
+    ),
 }
 
 METHODS = {
@@ -73,8 +122,9 @@ class Interface(unittest.TestCase):
                 with self.subTest(written):
                     self.check(vars(one)[written.split("(")[0]], written, name)
 
-    def test_all_rows_yields(self):
+    def test_what_yields(self):
         self.assertTrue(inspect.isgeneratorfunction(module("residues").all_rows))
+        self.assertTrue(inspect.isgeneratorfunction(module("counting").mimic_runs))
 
     def test_attributes(self):
         for group, names in (
