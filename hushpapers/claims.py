@@ -90,7 +90,7 @@ def product_openings(key, witness):
     return ((x, b), (y, d), (x * y % q, (t + b * y) % q))
 
 
-def _row_with(key, width, entries):
+def _filled_row(key, width, entries):
     """Return a row with the entries, pairs of a column and a member, and the unit elsewhere."""
     row = [key.group.unit] * width
     for column, member in entries:
@@ -104,9 +104,9 @@ def form_claim(key, covers, factors, total):
     if len(factors) != many:
         raise BadStatement()
     g, h = key.base, key.blind_base
-    rows = [_row_with(key, 2 * many, ((at, g), (many + at, h))) for at in range(many)]
+    rows = [_filled_row(key, 2 * many, ((at, g), (many + at, h))) for at in range(many)]
     last = [(at, key.group.power(g, factor)) for at, factor in enumerate(factors)]
-    rows.append(_row_with(key, 2 * many, last))
+    rows.append(_filled_row(key, 2 * many, last))
     return leaf(key.group, 2 * many, tuple(rows), (*covers, key.group.power(g, total)))
 
 
@@ -116,7 +116,8 @@ def form_witness(key, openings, factors, total):
     found = sum([value * factor for value, factor in zip(values, factors)])
     if (found - total) % key.group.order != 0:
         raise NoWitness()
-    return (*values, *[opening[1] for opening in openings])
+    blinds = [opening[1] for opening in openings]
+    return (*values, *blinds)
 
 
 def form_openings(key, witness):
@@ -131,9 +132,9 @@ def powers_claim(key, covers):
         raise BadStatement()
     h = key.blind_base
     width = len(covers) + 1
-    rows = [_row_with(key, width, ((0, key.base), (1, h)))]
+    rows = [_filled_row(key, width, ((0, key.base), (1, h)))]
     for at, cover in enumerate(covers[:-1]):
-        rows.append(_row_with(key, width, ((0, cover), (at + 2, h))))
+        rows.append(_filled_row(key, width, ((0, cover), (at + 2, h))))
     return leaf(key.group, width, tuple(rows), covers)
 
 
@@ -166,12 +167,14 @@ def exclusion_claim(key, cover, values):
     """Return the claim that the cover opens to none of the values."""
     g, h = key.base, key.blind_base
     width = 2 + 2 * len(values)
-    rows = [_row_with(key, width, ((0, g), (1, h)))]
+    rows = [_filled_row(key, width, ((0, g), (1, h)))]
+    targets = [cover]
     for at, value in enumerate(values):
         column = 2 + 2 * at
         entries = ((column, _without_value(key, cover, value)), (column + 1, h))
-        rows.append(_row_with(key, width, entries))
-    return leaf(key.group, width, tuple(rows), (cover, *([g] * len(values))))
+        rows.append(_filled_row(key, width, entries))
+        targets.append(g)
+    return leaf(key.group, width, tuple(rows), tuple(targets))
 
 
 def exclusion_witness(key, opening, values):
