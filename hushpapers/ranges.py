@@ -4,8 +4,8 @@ from hushpapers.claims import choice_claim, choice_openings, choice_witness, val
 from hushpapers.covers import divide, subtract_openings
 from hushpapers.errors import BadStatement, BadTape, NoWitness
 from hushpapers.residues import is_residue, is_residue_row
-from hushpapers.runs import matching_tape, run_of
-from hushpapers.statements import every
+from hushpapers.runs import accepts, matching_tape, run_of
+from hushpapers.statements import every, is_member_row
 
 DIGITS = (0, 1)
 
@@ -75,11 +75,30 @@ def range_openings(key, witness, top):
     return ((value, blind % key.group.order),)
 
 
+def cover_digits(key, top, value, blinds):
+    """Return the digit covers of the value with these blinds."""
+    digits = range_digits(top, value)
+    return tuple([key.cover(digit, blind) for digit, blind in zip(digits, blinds)])
+
+
+def digit_blinds(key, top, value, digit_covers):
+    """Return the blinds with which the digit covers are those of the value."""
+    digits = range_digits(top, value)
+    return tuple([key.blind_for(cover, digit) for cover, digit in zip(digit_covers, digits)])
+
+
+def accepts_range(key, cover, top, digit_covers, run):
+    """Tell whether the parts, of any form, are covers and an accepted run of the range claim."""
+    group = key.group
+    if not group.has(cover) or not is_member_row(group, len(range_weights(top)), digit_covers):
+        return False
+    return accepts(group, range_claim(key, cover, top, digit_covers), run)
+
+
 def offer_range(key, opening, top, blinds, tape, challenge):
     """Return digit covers and the honest run of the range claim."""
     witness = range_witness(key, opening, top, blinds)
-    digits = range_digits(top, opening[0])
-    digit_covers = tuple([key.cover(digit, blind) for digit, blind in zip(digits, blinds)])
+    digit_covers = cover_digits(key, top, opening[0], blinds)
     claim = range_claim(key, key.cover(opening[0], opening[1]), top, digit_covers)
     return digit_covers, run_of(key.group, claim, witness, tape, challenge)
 
@@ -87,13 +106,10 @@ def offer_range(key, opening, top, blinds, tape, challenge):
 def retell_range(key, cover, top, digit_covers, run, value):
     """Return blind, blinds and tape with which the value gives the same range offer."""
     blind = key.blind_for(cover, value)
-    digits = range_digits(top, value)
-    blinds = [
-        key.blind_for(digit_cover, digit) for digit_cover, digit in zip(digit_covers, digits)
-    ]
+    blinds = digit_blinds(key, top, value, digit_covers)
     claim = range_claim(key, cover, top, digit_covers)
-    witness = range_witness(key, (value, blind), top, tuple(blinds))
-    return blind, tuple(blinds), matching_tape(key.group, claim, witness, run)
+    witness = range_witness(key, (value, blind), top, blinds)
+    return blind, blinds, matching_tape(key.group, claim, witness, run)
 
 
 def order_claim(key, first, second, top, first_digits, second_digits, gap_digits):

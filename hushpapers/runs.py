@@ -1,7 +1,7 @@
 """Runs: the start of a writer, the challenge of a judge, and the answer."""
 
 from hushpapers.errors import (
-    BadChallenge, BadTape, BadWitness, DifferentStarts, NotAccepted, SameChallenge,
+    BadChallenge, BadTape, BadWitness, DifferentStarts, NotAccepted, SameChallenge, WrongCoin,
 )
 from hushpapers.linear import reduced
 from hushpapers.residues import (
@@ -67,6 +67,12 @@ def _check_challenge(group, challenge):
 def _check_run(group, statement, run):
     if not accepts(group, statement, run):
         raise NotAccepted()
+
+
+def check_coin(run, coin):
+    """Raise WrongCoin unless the challenge of the run is the coin."""
+    if not is_tuple_of(3, run) or run[1] != coin:
+        raise WrongCoin()
 
 
 def _cut(statement, tape):

@@ -6,6 +6,7 @@ import unittest
 
 from hushpapers.covers import Key
 from hushpapers.groups import PowerGroup
+from hushpapers.ledger import Ledger, make_payment
 from tests.samples import table_group
 
 FUNCTIONS = {
@@ -81,6 +82,29 @@ FUNCTIONS = {
         "degree_claim(key, covers, degree)", "deal(q, coefficients, blinds, many)",
         "share_fits(key, covers, share)", "join_shares(q, shares)", "retell_deal(key, covers, shares, secret)",
     ),
+    "mixing": (
+        "switch_places(many)", "mix_rows(key, row, settings, blinds)", "source_places(many, settings)",
+        "settings_for(places)", "mix_claim(key, rows)", "mix_witness(settings, blinds)", "read_mix(witness)",
+        "mixed_openings(q, openings, settings, blinds)", "retell_mix(key, rows, run, settings)",
+    ),
+    "notation": (
+        "write_nested(value)", "read_nested(text)", "plain_statement(statement)", "digest(text, q)",
+        "drawn_residues(seed, many, q)",
+    ),
+    "papers": (
+        "challenge_for(q, statement, start, note)", "write_paper(group, statement, witness, tape, note)",
+        "judge_paper(group, statement, note, text)", "count_papers(group, statement, note)",
+        "forge_paper(group, statement, note)",
+        "draw_from_papers(group, statement, first_note, first, second_note, second)",
+    ),
+    "ledger": (
+        "payment_claim(key, top, sender_cover, amount_cover, amount_digits, rest_digits)",
+        "make_payment(key, top, sender, receiver, opening, amount, secret, *, challenge)",
+        "payment_openings(key, top, witness)",
+        "retell_payment(key, top, sender_cover, payment, balance, amount)", "hold_ledger(key, top, steps)",
+        "retell_ledger(ledger, amounts)", "ledger_relation(ledger, witnesses)", "write_journal(ledger)",
+        "read_journal(key, top, text)",
+    ),
 }
 
 METHODS = {
@@ -96,6 +120,16 @@ METHODS = {
         "opens(self, cover, value, blind)", "blind_for(self, cover, value)",
         "count_openings(self, cover, value)", "relation_from(self, first, second)",
     ),
+    ("ledger", "Ledger"): (
+        "__init__(self, key, top)", "issue(self, name, value, blind)", "post(self, payment, *, coin)",
+        "cover_of(self, name)", "total_cover(self)", "audit(self, names, value, blind)", "__len__(self)",
+        "__iter__(self)",
+    ),
+}
+
+PROPERTIES = {
+    ("covers", "Key"): ("relation", "hiding"),
+    ("ledger", "Ledger"): ("names", "issued"),
 }
 
 
@@ -134,5 +168,33 @@ class Interface(unittest.TestCase):
             for name in names:
                 self.assertIn(name, vars(group))
         key = Key(PowerGroup(11, 5), 3, 9)
-        for name in ("group", "base", "blind_base"):
-            self.assertIn(name, vars(key))
+        for one, names in (
+            (key, ("group", "base", "blind_base")),
+            (Ledger(key, 2), ("key", "top")),
+        ):
+            for name in names:
+                self.assertIn(name, vars(one))
+
+    def test_properties(self):
+        for (name, class_name), names in PROPERTIES.items():
+            one = vars(getattr(module(name), class_name))
+            for attribute in names:
+                self.assertIsInstance(one[attribute], property)
+                self.assertIsNone(one[attribute].fset)
+
+    def test_arguments_by_name(self):
+        key = Key(group=PowerGroup(modulus=11, order=5), base=3, blind_base=9)
+        ledger = Ledger(key=key, top=2)
+        ledger.issue(name="a", value=2, blind=1)
+        ledger.issue(name="b", value=0, blind=0)
+        payment = make_payment(
+            key=key, top=2, sender="a", receiver="b", opening=(2, 1), amount=1,
+            secret=(1, (0, 1), (2, 3), (0,) * 14), challenge=4,
+        )
+        with self.assertRaises(TypeError):
+            ledger.post(payment, 4)
+        with self.assertRaises(TypeError):
+            make_payment(key, 2, "a", "b", (2, 1), 1, (1, (0, 1), (2, 3), (0,) * 14), 4)
+        ledger.post(payment=payment, coin=4)
+        self.assertEqual(len(ledger), 3)
+        self.assertIs(ledger.audit(names=("a", "b"), value=2, blind=1), True)
