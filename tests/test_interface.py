@@ -4,9 +4,14 @@ import importlib
 import inspect
 import unittest
 
+from hushpapers.auction import Auction
 from hushpapers.covers import Key
+from hushpapers.desk import Desk
 from hushpapers.groups import PowerGroup
 from hushpapers.ledger import Ledger, make_payment
+from hushpapers.passes import Office, PassKey, present
+from hushpapers.ranges import offer_range
+from hushpapers.vote import Vote, make_ballot, make_mix
 from tests.samples import table_group
 
 FUNCTIONS = {
@@ -105,6 +110,19 @@ FUNCTIONS = {
         "retell_ledger(ledger, amounts)", "ledger_relation(ledger, witnesses)", "write_journal(ledger)",
         "read_journal(key, top, text)",
     ),
+    "vote": (
+        "make_ballot(key, options, option, blind, tape, challenge)",
+        "make_mix(key, row, settings, blinds, tape, challenge)", "hold_vote(key, options, ballots, mixes)",
+        "retell_ballot(key, options, cover, run, option)", "retell_vote(vote, options)",
+        "vote_relation(vote, openings, readings)",
+    ),
+    "passes": (
+        "show_statement(key, body, shown, values, line)",
+        "present(key, values, blind, turn, shown, tape, *, challenge, spot=None)",
+        "read_show(key, request, witness)", "retell_show(key, request, values, blind)",
+        "seal_statement(key, public, body, sealed)", "unturn(group, sealed, turn)",
+    ),
+    "auction": ("hold_auction(key, top, bids, concessions)", "retell_auction(auction, values)"),
 }
 
 METHODS = {
@@ -125,11 +143,30 @@ METHODS = {
         "cover_of(self, name)", "total_cover(self)", "audit(self, names, value, blind)", "__len__(self)",
         "__iter__(self)",
     ),
+    ("vote", "Vote"): (
+        "__init__(self, key, options)", "cast(self, name, cover, run, *, coin)", "mix(self, rows, run, *, coin)",
+        "tell(self, openings)",
+    ),
+    ("passes", "PassKey"): ("__init__(self, group, mark, bases, blind_base)", "body(self, values, blind)"),
+    ("passes", "Office"): (
+        "__init__(self, key, secret)", "seal(self, request, tape, *, coin, challenge)",
+        "admit(self, request, sealed, *, coin)",
+    ),
+    ("auction", "Auction"): (
+        "__init__(self, key, top)", "place(self, name, cover, digit_covers, run, *, coin)",
+        "claim(self, name, bid, blind)", "limit_of(self, name)",
+        "concede(self, name, digit_covers, run, *, coin)",
+    ),
+    ("desk", "Desk"): ("__init__(self, key, top)", "line(self, text)", "lines(self, text)", "paper(self)"),
 }
 
 PROPERTIES = {
     ("covers", "Key"): ("relation", "hiding"),
     ("ledger", "Ledger"): ("names", "issued"),
+    ("vote", "Vote"): ("stage", "tally", "board"),
+    ("passes", "Office"): ("public",),
+    ("auction", "Auction"): ("winner", "board"),
+    ("desk", "Desk"): ("ledger",),
 }
 
 
@@ -171,9 +208,19 @@ class Interface(unittest.TestCase):
         for one, names in (
             (key, ("group", "base", "blind_base")),
             (Ledger(key, 2), ("key", "top")),
+            (Vote(key, 2), ("key", "options")),
+            (PassKey(key.group, 3, (4,), 9), ("group", "mark", "bases", "blind_base")),
+            (Office(PassKey(key.group, 3, (), 9), 2), ("key", "secret")),
+            (Auction(key, 2), ("key", "top")),
+            (Desk(key, 2), ("key", "top")),
         ):
             for name in names:
                 self.assertIn(name, vars(one))
+
+    def test_replayed(self):
+        method = vars(module("desk").Desk)["replayed"]
+        self.assertIsInstance(method, classmethod)
+        self.check(method.__func__, "replayed(cls, key, top, paper)", "desk")
 
     def test_properties(self):
         for (name, class_name), names in PROPERTIES.items():
@@ -197,4 +244,40 @@ class Interface(unittest.TestCase):
             make_payment(key, 2, "a", "b", (2, 1), 1, (1, (0, 1), (2, 3), (0,) * 14), 4)
         ledger.post(payment=payment, coin=4)
         self.assertEqual(len(ledger), 3)
+        self.assertEqual([record[0] for record in ledger], ["issue", "issue", "pay"])
         self.assertIs(ledger.audit(names=("a", "b"), value=2, blind=1), True)
+
+    def test_arguments_by_name_of_systems(self):
+        key = Key(PowerGroup(11, 5), 3, 9)
+        vote = Vote(key=key, options=2)
+        cover, run = make_ballot(key=key, options=2, option=1, blind=3, tape=(1, 2, 3), challenge=4)
+        vote.cast(name="a", cover=cover, run=run, coin=4)
+        rows, run = make_mix(key=key, row=(cover,), settings=(), blinds=(), tape=(), challenge=2)
+        vote.mix(rows=rows, run=run, coin=2)
+        vote.tell(openings=((1, 3),))
+        self.assertEqual(vote.tally, (0, 1))
+        pass_key = PassKey(group=key.group, mark=3, bases=(4, 5, 9), blind_base=9)
+        request, _ = present(
+            key=pass_key, values=(2, 4, 3), blind=1, turn=2, shown=(2,), tape=(0, 1, 2, 3), spot=1, challenge=4
+        )
+        office = Office(key=pass_key, secret=3)
+        sealed, _ = office.seal(request=request, tape=(1,), challenge=2, coin=4)
+        self.assertEqual(office.admit(request=request, sealed=sealed, coin=4), ())
+        auction = Auction(key=key, top=0)
+        digit_covers, run = offer_range(key, (0, 2), 0, (), (1,), 3)
+        auction.place(name="a", cover=key.cover(0, 2), digit_covers=digit_covers, run=run, coin=3)
+        auction.claim(name="a", bid=0, blind=2)
+        self.assertEqual(auction.limit_of(name="a"), 0)
+        desk = Desk.replayed(key=key, top=2, paper="issue a 1 1")
+        self.assertEqual(desk.line(text="audit a"), "1 1")
+        self.assertEqual(desk.lines(text="undo"), ("undone",))
+
+    def test_keywords_that_must_be_named(self):
+        for name, class_name, method in (
+            ("ledger", "Ledger", "post"), ("vote", "Vote", "cast"), ("vote", "Vote", "mix"),
+            ("passes", "Office", "seal"), ("passes", "Office", "admit"), ("auction", "Auction", "place"),
+            ("auction", "Auction", "concede"),
+        ):
+            function = vars(getattr(module(name), class_name))[method]
+            coin = inspect.signature(function).parameters["coin"]
+            self.assertEqual(coin.kind, inspect.Parameter.KEYWORD_ONLY)

@@ -28,4 +28,4 @@ class Examples(unittest.TestCase):
                     with self.subTest(code.strip()):
                         self.assertEqual(eval(code, names), eval(value.group(0)))
                     checked += 1
-        self.assertEqual(checked, 19)
+        self.assertEqual(checked, 26)
